@@ -1,0 +1,1 @@
+"""Stripestack: files of nested records in columns."""
