@@ -17,6 +17,25 @@ FUNCTIONS = {
         "is_value": ["kind", "value"],
         "project_record": ["schema", "wanted", "record"],
     },
+    "stripestack.shred": {
+        "shred": ["schema", "records"],
+        "assemble": ["schema", "columns"],
+    },
+    "stripestack.numbers": {
+        "put_number": ["number"],
+        "put_word": ["number"],
+        "fold_sign": ["number"],
+        "unfold_sign": ["number"],
+        "width_of": ["most"],
+        "pack": ["numbers", "width"],
+        "take_number": ["data", "at"],
+        "take_word": ["data", "at"],
+        "unpack": ["data", "at", "count", "width"],
+    },
+    "stripestack.levels": {
+        "put_levels": ["numbers", "most"],
+        "take_levels": ["data", "at", "count", "most"],
+    },
 }
 
 
