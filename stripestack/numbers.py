@@ -46,6 +46,13 @@ def take_word(data, at):
     return word, end
 
 
+def take_byte(data, at):
+    """Return the byte at a place and the index after it, or raise BadFile."""
+    if at >= len(data):
+        raise BadFile("byte cut short")
+    return data[at], at + 1
+
+
 def fold_sign(number):
     """Return the number from 0 that stands for an integer of either sign."""
     if number < 0:

@@ -6,6 +6,7 @@ MOST_FIELDS = 12
 MOST_LEVELS = 5
 MOST_NAME = 12
 NAME_SIGNS = "abcdefghijklmnopqrstuvwxyz0123456789"
+TIMES = ("one", "maybe", "many")
 KINDS = ("int", "bool", "text")
 # How much a field adds to the greatest definition and to the greatest repetition.
 ADDED = {"one": (0, 0), "maybe": (1, 0), "many": (1, 1)}

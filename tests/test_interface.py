@@ -36,6 +36,37 @@ FUNCTIONS = {
         "put_levels": ["numbers", "most"],
         "take_levels": ["data", "at", "count", "most"],
     },
+    "stripestack.values": {
+        "allowed": ["kind"],
+        "put_one": ["kind", "value"],
+        "put_values": ["kind", "values", "encoding"],
+        "take_one": ["kind", "data", "at"],
+        "take_values": ["kind", "data", "at", "count", "encoding"],
+    },
+    "stripestack.pages": {
+        "put_page": ["column", "entries", "encoding"],
+        "take_page": ["column", "data", "encoding"],
+        "mark_of": ["kind", "value"],
+        "has_mark": ["sieve", "mark"],
+        "told_of": ["column", "entries"],
+        "put_told": ["column", "told"],
+        "take_told": ["column", "data", "at"],
+    },
+    "stripestack.files": {
+        "check_layout": ["schema", "layout"],
+        "plain_layout": ["schema", "size"],
+        "write_groups": ["schema", "groups"],
+        "read_groups": ["data"],
+    },
+}
+CLASSES = {
+    "stripestack.files": {
+        "Opened": {
+            "__init__": ["self", "data"],
+            "entries": ["self", "group", "column", "page"],
+            "group_records": ["self", "group"],
+        },
+    },
 }
 
 
@@ -54,6 +85,22 @@ class InterfaceTest(unittest.TestCase):
             for name, arguments in functions.items():
                 with self.subTest(file=file, name=name):
                     self.assertEqual(list(inspect.signature(getattr(module, name)).parameters), arguments)
+
+    def test_classes_stand_in_their_files(self):
+        for file, classes in CLASSES.items():
+            module = importlib.import_module(file)
+            for name in classes:
+                with self.subTest(file=file, name=name):
+                    self.assertTrue(inspect.isclass(getattr(module, name)))
+                    self.assertEqual(getattr(module, name).__module__, file)
+
+    def test_methods_stand_in_their_classes_and_take_their_arguments(self):
+        for file, classes in CLASSES.items():
+            for name, methods in classes.items():
+                own = vars(getattr(importlib.import_module(file), name))
+                for method, arguments in methods.items():
+                    with self.subTest(file=file, name=name, method=method):
+                        self.assertEqual(list(inspect.signature(own[method]).parameters), arguments)
 
 
 if __name__ == "__main__":
