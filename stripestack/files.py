@@ -41,7 +41,7 @@ def write_groups(schema, groups):
     pages = []
     described = []
     for records, layout in groups:
-        written, group = _put_group(schema, records, layout, len(SEAL) + len(pages))
+        written, group = _put_group(schema, records, layout)
         pages.extend(written)
         described.append(group)
     return put_file(schema, pages, described)
@@ -55,8 +55,8 @@ def _check_group(schema, records, layout):
         check_record(schema, record)
 
 
-def _put_group(schema, records, layout, place):
-    """Return the bytes of the pages of a group, which begin at a place, and its triple of Opened.groups."""
+def _put_group(schema, records, layout):
+    """Return the bytes of the pages of a group, and the triple that put_file takes for it."""
     size, encodings = layout
     columns = shred(schema, records)
     written = []
@@ -65,7 +65,7 @@ def _put_group(schema, records, layout, place):
         pages = []
         for entries in _cut_pages(columns[column[0]], size):
             page = put_page(column, entries, encoding)
-            pages.append((place + len(written), len(page), told_of(column, entries)))
+            pages.append((len(page), told_of(column, entries)))
             written.extend(page)
         described.append(pages)
     return written, (len(records), layout, described)
@@ -85,9 +85,10 @@ def _cut_pages(entries, size):
 
 
 def put_file(schema, pages, groups):
-    """Return the bytes of the file with the bytes of all pages and the groups of Opened.groups.
+    """Return the bytes of the file with the bytes of all its pages.
 
-    The places of the pages may be those of other files: only their lengths are asked for.
+    Each group is a triple of the number of records, the layout, and for each column the list of
+    the pairs (length, told) of its pages.
     """
     footer = _put_footer(schema, groups)
     return list(SEAL) + pages + footer + put_word(len(footer)) + list(SEAL)
@@ -100,7 +101,7 @@ def _put_footer(schema, groups):
         size, encodings = layout
         written.extend(put_number(count) + put_number(size) + list(encodings))
         for column, pages in zip(columns, described):
-            for _, length, told in pages:
+            for length, told in pages:
                 written.extend(put_number(length) + put_told(column, told))
     return written
 

@@ -58,6 +58,25 @@ FUNCTIONS = {
         "write_groups": ["schema", "groups"],
         "read_groups": ["data"],
     },
+    "stripestack.conditions": {
+        "check_condition": ["schema", "condition"],
+        "condition_paths": ["condition"],
+        "holds": ["condition", "values"],
+        "verdict": ["condition", "kinds", "told"],
+    },
+    "stripestack.reader": {
+        "read": ["data", "paths", "condition"],
+        "touched_pages": ["data", "paths", "condition"],
+    },
+    "stripestack.writer": {
+        "merge": ["files"],
+    },
+    "stripestack.evolve": {
+        "check_fit": ["elder", "newer", "path"],
+        "fits": ["elder", "newer"],
+        "change_record": ["elder", "newer", "record"],
+        "read_as": ["data", "schema"],
+    },
 }
 CLASSES = {
     "stripestack.files": {
@@ -65,6 +84,14 @@ CLASSES = {
             "__init__": ["self", "data"],
             "entries": ["self", "group", "column", "page"],
             "group_records": ["self", "group"],
+        },
+    },
+    "stripestack.writer": {
+        "Writer": {
+            "__init__": ["self", "schema", "layout", "group_size"],
+            "add": ["self", "record"],
+            "flush": ["self"],
+            "finish": ["self"],
         },
     },
 }

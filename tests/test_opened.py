@@ -173,6 +173,20 @@ class EntriesTest(unittest.TestCase):
         self.refused(other.entries, 0, 0, 1)
         self.refused(other.group_records, 0)
 
+    def test_pages_in_another_form(self):
+        # The same entries could be read from a dictionary in another order, or from a piece instead of a run.
+        schema = (("a", "maybe", "text"),)
+        forms = (
+            ([("x",), ("y",), (None,)], [3, 7, 3, 2, 1, 120, 1, 121, 5, 2], [3, 7, 3, 2, 1, 121, 1, 120, 5, 1]),
+            ([(None,)] * 8, [8, 16, 0, 0], [8, 17, 0, 0]),
+        )
+        for records, page, other in forms:
+            data = write_groups(schema, [(records, (10, (1,)))])
+            self.assertEqual(data[4:4 + len(page)], page)
+            opened = Opened(data[:4] + other + data[4 + len(page):])
+            self.refused(opened.entries, 0, 0, 0)
+            self.refused(opened.group_records, 0)
+
 
 if __name__ == "__main__":
     unittest.main()

@@ -5,7 +5,7 @@ import unittest
 
 from stripestack.errors import BadFile
 from stripestack.fields import put_fields
-from stripestack.files import plain_layout, read_groups, write_groups
+from stripestack.files import Opened, plain_layout, read_groups, write_groups
 from stripestack.numbers import put_number, put_word
 from stripestack.pages import put_told
 from tests.samples import DEEP, FLAT, NESTED, ONE, SCHEMAS, broken_forms, groups_of, layouts_of, records_of
@@ -158,7 +158,16 @@ class BrokenTest(ReadCase):
             self.refused_or_another_file(sealed([], inner))
 
 
-class EndsTest(ReadCase):
+class FooterCase(ReadCase):
+    """What is wrong at the ends of a file or in its footer is refused before any page is asked for."""
+
+    def refused(self, data):
+        ReadCase.refused(self, data)
+        with self.assertRaises(BadFile):
+            Opened(data)
+
+
+class EndsTest(FooterCase):
     def test_no_bytes_or_the_seal_alone(self):
         self.refused([])
         self.refused(SEAL)
@@ -193,7 +202,7 @@ class EndsTest(ReadCase):
             self.refused(sealed([], footer + behind))
 
 
-class FooterTest(ReadCase):
+class FooterTest(FooterCase):
     def footer_of(self, fields):
         return sealed([], put_fields(fields) + [0])
 

@@ -1,0 +1,1 @@
+"""The tests of the project and the samples that they share."""
